@@ -1,0 +1,1 @@
+"""Needonce: a lazy language, its checker, compiler and machine."""

@@ -1,0 +1,119 @@
+"""What holds everywhere: points 0.1 to 0.5."""
+
+import inspect
+import unittest
+
+from needonce import errors, groups, layout, parser, prelude, printing, scopes, tokens, types
+from tests.making import Maker
+
+# The interface of the parts that have landed: the names that stand in each file.
+INTERFACE = (
+    (tokens, ("tokens",), ("KEYWORDS",)),
+    (layout, ("layout",), ()),
+    (parser, ("parse", "parse_expr", "parse_kind"), ()),
+    (printing, ("print_program", "print_declaration", "print_expr", "print_kind"), ()),
+    (prelude, ("with_prelude",), ("PRELUDE",)),
+    (scopes, ("check_scopes",), ("BUILT_IN",)),
+    (groups, ("free_values", "binding_groups"), ()),
+    (types, ("list_of", "function", "variables_of", "metas_of", "replace_names", "variable_name", "instance_of"),
+     ("INT", "BOOL")),
+)
+
+TEXT = """
+data Tree a = Leaf | Node (Tree a) a (Tree a)
+class Shown a where { shown :: a -> List Int ; size :: a -> Int }
+instance Shown Int where { shown n = [n] ; size n = 1 }
+instance Shown a => Shown (Tree a) where
+  shown t = case t of
+    Leaf -> []
+    Node l x r -> append (shown l) (append (shown x) (shown r))
+  size t = sum (map (\\x -> 1) (shown t))
+insert :: Int -> Tree Int -> Tree Int
+insert n t = case t of
+  Leaf -> Node Leaf n Leaf
+  Node l x r -> if n < x then Node (insert n l) x r
+                else Node l x (insert n r)
+main = let t = foldr insert Leaf [3, 1, 2]
+           more = note 7 (shown t)
+       in size t : more
+"""
+
+
+def only_values(thing):
+    """Whether a value consists of what point 0.4 lists."""
+    if type(thing) is tuple:
+        return all(only_values(part) for part in thing)
+    return type(thing) in (int, str)
+
+
+class InterfaceTest(unittest.TestCase):
+    def test_functions_are_defined_in_their_files(self):
+        for module, functions, _ in INTERFACE:
+            for name in functions:
+                with self.subTest(name):
+                    self.assertTrue(inspect.isfunction(getattr(module, name)))
+                    self.assertEqual(getattr(module, name).__module__, module.__name__)
+
+    def test_values_exist(self):
+        for module, _, names in INTERFACE:
+            for name in names:
+                self.assertTrue(only_values(getattr(module, name)), name)
+
+    def test_the_way_of_a_text(self):
+        program = prelude.with_prelude(parser.parse(TEXT))
+        self.assertIsNone(scopes.check_scopes(program))
+        self.assertEqual(parser.parse(printing.print_program(program)), program)
+        own = tuple(declaration for declaration in parser.parse(TEXT) if declaration[0] == "define")
+        self.assertEqual(groups.binding_groups(own, ("insert",)), (("insert",), ("main",)))
+
+
+class ValuesTest(unittest.TestCase):
+    def test_trees_are_tuples_of_integers_and_strings(self):
+        self.assertTrue(only_values(parser.parse(TEXT)))
+        self.assertTrue(only_values(parser.parse_expr("\\x -> [note 1 (let { } in 2)]")))
+        self.assertTrue(only_values(parser.parse_kind("List (a -> Int)")))
+        for seed in range(200):
+            self.assertTrue(only_values(parser.parse(printing.print_program(Maker(seed).program(3)))))
+
+    def test_tokens_are_tuples_of_integers_and_strings(self):
+        for row in (tokens.tokens(TEXT), layout.layout(tokens.tokens(TEXT))):
+            self.assertIs(type(row), list)
+            for token in row:
+                self.assertTrue(only_values(token))
+                self.assertEqual([type(part) for part in token], [str, str, int, int])
+
+    def test_texts_are_strings(self):
+        self.assertIs(type(prelude.PRELUDE), str)
+        self.assertIs(type(printing.print_program(())), str)
+
+
+class ChangesTest(unittest.TestCase):
+    def test_the_same_again(self):
+        for _ in range(2):
+            row = tokens.tokens(TEXT)
+            arranged = layout.layout(row)
+            self.assertEqual(parser.parse(TEXT), parser.parse(TEXT))
+            arranged.clear()
+            row.clear()
+            self.assertGreater(len(layout.layout(tokens.tokens(TEXT))), 200)
+
+    def test_arguments_stay(self):
+        row = tokens.tokens(TEXT)
+        layout.layout(row)
+        self.assertEqual(row, tokens.tokens(TEXT))
+        types_of_names = {"a": types.INT, "b": ("name", "a")}
+        types.replace_names(parser.parse_kind("a -> b -> c"), types_of_names)
+        self.assertEqual(types_of_names, {"a": types.INT, "b": ("name", "a")})
+
+    def test_errors_leave_nothing_behind(self):
+        for text in ("f = (", "f = %", "f = 01"):
+            with self.assertRaises(errors.TextError):
+                parser.parse(text)
+            self.assertEqual(len(parser.parse(TEXT)), 7)
+        with self.assertRaises(errors.ScopeError):
+            scopes.check_scopes(parser.parse("main = x"))
+        self.assertIsNone(scopes.check_scopes(parser.parse("main = main")))
+
+
+if __name__ == "__main__":
+    unittest.main()
