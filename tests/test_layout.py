@@ -129,6 +129,14 @@ class RowsTest(LayoutCase):
         self.check("a where b\n  c d", "{ a where { b } c d }")
         self.check("a b\na b", "{ a b ; a b }")
 
+    def test_later_tokens_of_a_row_behind_a_closed_marker(self):
+        # What closes the marker stands in a row further to the left; the rest of its row is as far to the left.
+        for left, right in (("(", ")"), ("[", "]"), ("{", "}"), ("if", "then d else"), ("case", "of { }")):
+            self.check(f"        a {left} b\n{right} c", f"{{ a {left} b {right} c }}")
+        self.check("   a (\nb) c", "{ a ( b ) c }")
+        self.check("    a (\nb) c", "{ a ( b ) c }")
+        self.check("        a let { b }\nin c", "{ a let { b } in c }")
+
     def test_the_token_that_opens_a_block_adds_no_semicolon(self):
         self.check("a where\n  b", "{ a where { b } }")
 

@@ -132,6 +132,8 @@ class InstanceOfTest(unittest.TestCase):
     def test_functions(self):
         self.check("a -> b", "List a", False)
         self.check("Fun a b", "a -> b", False)
+        self.check("a -> b", "Fun a b", False)
+        self.check("List (a -> b)", "List (Fun a b)", False)
         self.check("a -> b -> c", "Int -> Bool", False)
         self.check("a -> b", "Int -> Bool -> Int", True)
         self.check("(a -> b) -> List a -> List b", "(Int -> Bool) -> List Int -> List Bool", True)
