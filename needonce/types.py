@@ -49,18 +49,18 @@ def _parts(kind):
     return ()
 
 
-def replace_names(kind, kinds):
+def replace_names(kind, types):
     """Returns the type with the types of the dict in place of named variables, all at once."""
     if kind[0] == "name":
-        return kinds.get(kind[1], kind)
+        return types.get(kind[1], kind)
     if kind[0] == "fun":
-        return ("fun", replace_names(kind[1], kinds), replace_names(kind[2], kinds))
+        return ("fun", replace_names(kind[1], types), replace_names(kind[2], types))
     if kind[0] == "meta":
         return kind
     # A loop, and no comprehension: Python 3.11 would spend a second call on each level.
     arguments = []
     for argument in kind[2]:
-        arguments.append(replace_names(argument, kinds))
+        arguments.append(replace_names(argument, types))
     return ("con", kind[1], tuple(arguments))
 
 
