@@ -11,6 +11,11 @@ def list_of(kind):
     return ("con", "List", (kind,))
 
 
+def scheme_of(context, kind):
+    """Returns the scheme of a type, all of whose named variables are its own."""
+    return (variables_of(kind), context, kind)
+
+
 def function(arguments, result):
     """Returns the type of the functions from a tuple of types, one after the other, to the result."""
     kind = result
@@ -36,12 +41,12 @@ def _leaves(kind, word):
         part = todo.pop()
         if part[0] == word:
             found[part[1]] = True
-        todo.extend(_parts(part)[::-1])
+        todo.extend(kind_parts(part)[::-1])
     return tuple(found)
 
 
-def _parts(kind):
-    """The types directly in a type, from left to right."""
+def kind_parts(kind):
+    """Returns the types directly in a type, from left to right."""
     if kind[0] == "con":
         return kind[2]
     if kind[0] == "fun":
@@ -51,17 +56,40 @@ def _parts(kind):
 
 def replace_names(kind, types):
     """Returns the type with the types of the dict in place of named variables, all at once."""
-    if kind[0] == "name":
-        return types.get(kind[1], kind)
+    return replace_leaves(kind, "name", types, False)
+
+
+def replace_leaves(kind, word, types, again):
+    """Returns the type with the types of the dict in place of variables of one form, the names or the metas.
+
+    What comes in place of a variable is examined for variables itself if again is True. A list is worked off instead
+    of calling itself again for each part, so that deep types are no matter.
+    """
+    done = []
+    todo = [(kind, False)]
+    while todo:
+        part, ready = todo.pop()
+        below = kind_parts(part)
+        if ready:
+            start = len(done) - len(below)
+            done[start:] = [_with_kind_parts(part, done[start:])]
+        elif below:
+            todo.append((part, True))
+            todo.extend([(inner, False) for inner in below[::-1]])
+        elif part[0] != word or part[1] not in types:
+            done.append(part)
+        elif again:
+            todo.append((types[part[1]], False))
+        else:
+            done.append(types[part[1]])
+    return done[0]
+
+
+def _with_kind_parts(kind, parts):
+    """The type with other types directly in it."""
     if kind[0] == "fun":
-        return ("fun", replace_names(kind[1], types), replace_names(kind[2], types))
-    if kind[0] == "meta":
-        return kind
-    # A loop, and no comprehension: Python 3.11 would spend a second call on each level.
-    arguments = []
-    for argument in kind[2]:
-        arguments.append(replace_names(argument, types))
-    return ("con", kind[1], tuple(arguments))
+        return ("fun", *parts)
+    return ("con", kind[1], tuple(parts))
 
 
 def variable_name(index):
@@ -81,15 +109,15 @@ def instance_of(scheme, kind):
         if place[0] == "name" and place[1] in variables:
             if found.setdefault(place[1], part) != part:
                 return False
-        elif not _alike(place, part):
+        elif not alike(place, part):
             return False
         else:
-            todo.extend(list(zip(_parts(place), _parts(part))))
+            todo.extend(list(zip(kind_parts(place), kind_parts(part))))
     return True
 
 
-def _alike(one, other):
+def alike(one, other):
     """Tells whether two types are of one kind, with the same name and as many parts."""
-    if one[0] != other[0] or len(_parts(one)) != len(_parts(other)):
+    if one[0] != other[0] or len(kind_parts(one)) != len(kind_parts(other)):
         return False
     return one[0] == "fun" or one[1] == other[1]

@@ -38,7 +38,7 @@ AT_ONCE = {"list", "tuple", "dict", "sorted", "sum", "any", "all", "enumerate", 
 ITERATORS = {"zip", "enumerate", "reversed"}
 VIEWS = {"items", "keys", "values"}
 STATEMENTS = (ast.Assign, ast.AugAssign, ast.If, ast.While, ast.For, ast.Return, ast.Break, ast.Continue, ast.Pass,
-              ast.Raise, ast.Assert, ast.Delete, ast.Expr, ast.FunctionDef, ast.ClassDef, ast.ImportFrom)
+              ast.Raise, ast.Assert, ast.Delete, ast.Expr, ast.FunctionDef, ast.ClassDef, ast.ImportFrom, ast.Try)
 
 
 def complaints(text, own_methods=()):
@@ -342,9 +342,14 @@ def sets(tree):
 
 
 def errors_raised(tree):
-    """L19: an error is made on the spot, by the name of its class."""
+    """L6, L19: an error is made on the spot, by the name of its class; only own ones are caught, and named."""
     found = []
     for node in ast.walk(tree):
+        if isinstance(node, ast.Try) and (node.finalbody or node.orelse):
+            found.append((node.lineno, "L6 the package has no use for else and finally so far"))
+        if isinstance(node, ast.ExceptHandler):
+            if not isinstance(node.type, ast.Name) or node.type.id in dir(builtins):
+                found.append((node.lineno, "L19 a handler"))
         if isinstance(node, ast.Raise) and node.exc is not None:
             if not (isinstance(node.exc, ast.Call) and isinstance(node.exc.func, ast.Name)):
                 found.append((node.lineno, "L19 a raise"))

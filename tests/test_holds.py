@@ -3,7 +3,8 @@
 import inspect
 import unittest
 
-from needonce import errors, groups, layout, parser, prelude, printing, scopes, tokens, types
+from needonce import (apply_table, checker, core, elaborate, errors, groups, infer, layout, meaning, parser, prelude,
+                      printing, scopes, simplify, strict, tokens, types, unify)
 from tests.making import Maker
 
 # The interface of the parts that have landed: the names that stand in each file.
@@ -17,6 +18,10 @@ INTERFACE = (
     (groups, ("free_values", "binding_groups"), ()),
     (types, ("list_of", "function", "variables_of", "metas_of", "replace_names", "variable_name", "instance_of"),
      ("INT", "BOOL")),
+    (infer, ("infer_program",), ()), (elaborate, ("elaborate",), ()), (checker, ("check", "schemes"), ()),
+    (core, ("is_term", "free_names", "size", "program_size", "arity", "check_program", "bound_names", "is_apart"), ()),
+    (meaning, ("head_of", "shown"), ("FAULTS",)), (strict, ("lead", "holds_table", "make_table"), ()),
+    (apply_table, ("apply_table",), ()), (simplify, ("rename_apart", "simplify"), ()),
 )
 
 TEXT = """
@@ -43,7 +48,7 @@ def only_values(thing):
     """Whether a value consists of what point 0.4 lists."""
     if type(thing) is tuple:
         return all(only_values(part) for part in thing)
-    return type(thing) in (int, str)
+    return thing is None or type(thing) in (int, str)
 
 
 class InterfaceTest(unittest.TestCase):
@@ -53,6 +58,12 @@ class InterfaceTest(unittest.TestCase):
                 with self.subTest(name):
                     self.assertTrue(inspect.isfunction(getattr(module, name)))
                     self.assertEqual(getattr(module, name).__module__, module.__name__)
+
+    def test_classes_are_defined_in_their_files(self):
+        for module, name, methods in ((unify, "Unifier", ("fresh", "resolve", "unify")),):
+            self.assertEqual(getattr(module, name).__module__, module.__name__)
+            for method in methods:
+                self.assertIn(method, vars(getattr(module, name)))
 
     def test_values_exist(self):
         for module, _, names in INTERFACE:
@@ -66,6 +77,20 @@ class InterfaceTest(unittest.TestCase):
         own = tuple(declaration for declaration in parser.parse(TEXT) if declaration[0] == "define")
         self.assertEqual(groups.binding_groups(own, ("insert",)), (("insert",), ("main",)))
 
+    def test_the_way_of_a_program(self):
+        """From a text to its core, made simpler and strict: it shows the same all the way."""
+        whole = checker.check(TEXT)
+        simple = simplify.simplify(whole)
+        table = strict.make_table(simple)
+        new = apply_table.apply_table(simple, table)
+        for each in (whole, simple, new):
+            self.assertIsNone(core.check_program(each))
+            events, state, _ = meaning.shown(each, 10000)
+            self.assertEqual(events, (("show", 3), ("note", 7), ("show", 1), ("show", 2), ("show", 3), ("end",)))
+            self.assertEqual(state, ("end",))
+        self.assertTrue(strict.holds_table(simple, table))
+        self.assertIn(("insert", (1,)), table)
+
 
 class ValuesTest(unittest.TestCase):
     def test_trees_are_tuples_of_integers_and_strings(self):
@@ -74,6 +99,18 @@ class ValuesTest(unittest.TestCase):
         self.assertTrue(only_values(parser.parse_kind("List (a -> Int)")))
         for seed in range(200):
             self.assertTrue(only_values(parser.parse(printing.print_program(Maker(seed).program(3)))))
+
+    def test_core_programs_are_tuples_of_integers_strings_and_none(self):
+        whole = checker.check(TEXT)
+        simple = simplify.simplify(whole)
+        table = strict.make_table(simple)
+        for value in (whole, simple, table, apply_table.apply_table(simple, table), checker.schemes(TEXT),
+                      meaning.shown(whole, 300), meaning.head_of(whole, ("var", "main"), 50),
+                      strict.lead(simple, table, ("var", "x"))[0]):
+            self.assertTrue(only_values(value))
+        self.assertIs(type(strict.lead(simple, table, ("var", "x"))[1]), bool)
+        self.assertIs(type(core.free_names(("var", "x"))), list)
+        self.assertIs(type(core.bound_names(("var", "x"))), list)
 
     def test_tokens_are_tuples_of_integers_and_strings(self):
         for row in (tokens.tokens(TEXT), layout.layout(tokens.tokens(TEXT))):
