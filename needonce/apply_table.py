@@ -1,10 +1,10 @@
 """Making a program strict: what is needed anyway is evaluated first."""
 
 from needonce.building import applied
-from needonce.new_names import NewNames
 from needonce.core import arity
+from needonce.leads import Known, find_lead, is_plain_let
+from needonce.new_names import NewNames
 from needonce.parts import call_parts, parts_of, with_parts
-from needonce.strict import is_plain_let, lead
 
 
 def apply_table(program, table):
@@ -18,18 +18,16 @@ class Change:
     """What is needed to make the terms of a program strict."""
 
     def __init__(self, program, table):
-        self.program = program
-        self.table = table
-        self.indexes = dict(table)
+        self.table = dict(table)
         self.arities = {name: arity(term) for name, term in program[0]}
         self.new_names = NewNames(program)
 
     def first_indexes(self, function_part, arguments):
         """Returns the indexes of the arguments that a call evaluates first; none if it is not a full one."""
-        if function_part[0] != "var" or function_part[1] not in self.indexes:
+        if function_part[0] != "var" or function_part[1] not in self.table:
             return ()
         name = function_part[1]
-        return self.indexes[name] if len(arguments) >= self.arities[name] else ()
+        return self.table[name] if len(arguments) >= self.arities[name] else ()
 
 
 def _strict(change, term):
@@ -69,7 +67,7 @@ def _is_needed_first(change, term):
     """Whether the body of a let evaluates its only name first."""
     if not is_plain_let(term):
         return False
-    names, _ = lead(change.program, change.table, term[2])
+    names, _ = find_lead(Known(change.arities, change.table), term[2])
     return names[:1] == (term[1][0][0],)
 
 

@@ -47,7 +47,7 @@ def open_group(work, task):
 def close_group(work, task):
     """Ends a group without signatures: its types are generalised."""
     _, members, scope, entries = task
-    around = work.metas_around(scope)
+    around = work.leaves_around(scope, metas_of)
     kinds = [work.unifier.resolve(kind) for _, kind, _ in members]
     own = {}
     for kind in kinds:
@@ -135,9 +135,9 @@ def method_tasks(work, parameters, body, kind, scope):
 def close_signed(work, task):
     """Ends a definition with a signature: no name around it may have a type with the variables of the signature."""
     _, variables, scope = task
-    outside = work.names_around(scope)
+    outside = work.leaves_around(scope, variables_of)
     for variable in variables:
         if variable in outside:
             raise CannotUnify()
-    hand_on(work, reduce_needs(work, work.needs.pop()), work.metas_around(scope))
+    hand_on(work, reduce_needs(work, work.needs.pop()), work.leaves_around(scope, metas_of))
     return []

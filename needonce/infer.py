@@ -66,8 +66,6 @@ def _checked_instance(work, declaration, scope):
 
 def _checked(work, tasks, name):
     """The terms of a group at the top, or of a method, which has this name in errors."""
-    work.failed = False
-    work.ambiguous = False
     try:
         _do(work, tasks)
     except CannotUnify:
@@ -78,7 +76,6 @@ def _checked(work, tasks, name):
         raise Ambiguous(name)
     terms = [work.filled(term) for term in work.done]
     work.done.clear()
-    work.holes.clear()
     return terms
 
 

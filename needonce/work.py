@@ -8,7 +8,7 @@ place stands a hole, ("hole", number), until the group at the top is done.
 """
 
 from needonce.parts import rebuild, unchanged
-from needonce.types import metas_of, replace_names, variables_of
+from needonce.types import replace_names
 from needonce.unify import Unifier
 
 
@@ -85,20 +85,12 @@ class Work:
             term = ("app", term, self.need(class_name, kinds[variable]))
         self.done.append(term)
 
-    def metas_around(self, scope):
-        """Returns a dict with the metas that occur in the types of the names bound around."""
+    def leaves_around(self, scope, leaves_of):
+        """Returns a dict with the variables of one form, metas or names, in the types of the names bound around."""
         found = {}
         for kind in scope.around:
-            for meta in metas_of(self.unifier.resolve(kind)):
-                found[meta] = True
-        return found
-
-    def names_around(self, scope):
-        """Returns a dict with the named variables that occur in the types of the names bound around."""
-        found = {}
-        for kind in scope.around:
-            for variable in variables_of(self.unifier.resolve(kind)):
-                found[variable] = True
+            for leaf in leaves_of(self.unifier.resolve(kind)):
+                found[leaf] = True
         return found
 
     def filled(self, term):

@@ -74,6 +74,13 @@ class LanguageTest(unittest.TestCase):
     def test_the_package_has_no_name_of_the_library(self):
         self.assertNotIn("needonce", sys.stdlib_module_names)
 
+    def test_no_name_is_a_method_and_an_attribute(self):
+        stored = set()
+        for path in package_files():
+            stored |= {node.attr for node in ast.walk(ast.parse(path.read_text()))
+                       if isinstance(node, ast.Attribute) and isinstance(node.ctx, ast.Store)}
+        self.assertEqual(stored & own_methods(), set())
+
     def test_imports_name_the_file_that_defines(self):
         defined = {}
         for path in package_files():

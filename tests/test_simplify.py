@@ -134,6 +134,10 @@ class StepTest(SimplifyCase):
         self.becomes("(let (x (f a)) (con 0 x b))", "(con 0 (f a) b)")
         self.becomes("(let (x (note 1 2)) (+ b x))", "(+ b (note 1 2))")
         self.becomes("(let (x (f a)) (case b (0 (y) x)))", "(case b (0 (y) (f a)))")
+        self.becomes("(let (x (f a)) (con 0 x (lam y y)))", "(con 0 (f a) (lam y y))")
+        self.becomes("(let (x (f a)) (con 0 (lam y y) x))", "(con 0 (lam y y) (f a))")
+        self.becomes("(lam z (con 0 (lam y y) (let (x (f z)) (con 0 (lam y y) x)) (lam y y)))",
+                     "(lam z (con 0 (lam y y) (con 0 (lam y y) (f z)) (lam y y)))")
         self.becomes("(let (x (f a)) (let (y (x y)) (con 0 y y)))", "(let (y (f a y)) (con 0 y y))")
         self.becomes("(let (x (f a)) (y (f b)) (con 0 x y y))", "(let (y (f b)) (con 0 (f a) y y))")
         self.becomes("(let (x (lam z z)) (f x))", "(f (lam z z))")
@@ -192,6 +196,20 @@ class StepTest(SimplifyCase):
                                    ("(case (con 0) (0 () (f a)))", "(f a)"), ("(pick 1 (1 (f b)))", "(f b)"),
                                    ("(f (+ 1 1))", "(f 2)")):
                 self.becomes(place.format(text), place.format(expected))
+
+    def test_names_that_look_like_something_else(self):
+        for name in ("+", "var", "num", "let", "lam", "body", "own", "None", "0", "n.1"):
+            var = ("var", name)
+            for own, body, expected in ((("num", 5), ("prim", "+", var, ("var", "f")), "(+ 5 f)"),
+                                        (term("(f f)"), ("prim", "+", var, ("var", "f")), "(+ (f f) f)"),
+                                        (term("(f f)"), ("con", 0, (var, var)), "(let (x (f f)) (con 0 x x))"),
+                                        (var, ("con", 0, (var, var)), "(let (x x) (con 0 x x))"),
+                                        (term("(f f)"), ("lam", "a", ("prim", "*", ("var", "a"), ("var", "a"))),
+                                         "(lam a (* a a))")):
+                whole = ((("main", ("let", ((name, own),), body)), ("f", ("num", 1))), "main")
+                found = dict(simplify(whole)[0])["main"]
+                with self.subTest((name, body)):
+                    self.assertTrue(alike(found, term(expected)), found)
 
     def test_no_name_is_captured(self):
         self.becomes("((lam x y (con 0 x y)) b)", "(lam z (con 0 b z))")

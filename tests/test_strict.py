@@ -173,6 +173,15 @@ class LeadTest(LeadCase):
         self.lead("((case a (else d f)) b)", "a f", False)
         self.lead("(5 a)", "", False)
 
+    def test_names_that_look_like_something_else(self):
+        c = ("var", "c")
+        both = ((0, (), c), (1, (), c))
+        for name in ("==", "<", "prim", "num", "lam"):
+            self.assertEqual(lead(GLOBALS, TABLE, ("case", ("var", name), both, None)), ((name,), False))
+            self.assertEqual(lead(GLOBALS, TABLE, ("case", ("var", name), both, (name + "'", c))), ((name, "c"), True))
+        self.assertEqual(lead(GLOBALS, TABLE, ("case", ("num", 1), both, None)), ((), False))
+        self.assertEqual(lead(GLOBALS, TABLE, ("case", ("lam", "==", c), both, None)), ((), False))
+
     def test_arguments_stay(self):
         table, each = (("two", (1, 0)),), term("(let (x (two a b)) (== x a))")
         self.assertEqual(lead(GLOBALS, table, each), (("b", "a"), False))
