@@ -4,14 +4,14 @@ from needonce.building import applied
 from needonce.core import arity
 from needonce.leads import Known, find_lead, is_plain_let
 from needonce.new_names import NewNames
-from needonce.parts import call_parts, parts_of, with_parts
+from needonce.parts import call_parts, rebuild_pieces, with_parts
 
 
 def apply_table(program, table):
     """Returns the program made strict by a table that holds."""
     definitions, main = program
     change = Change(program, table)
-    return (tuple([(name, _strict(change, term)) for name, term in definitions]), main)
+    return (tuple([(name, rebuild_pieces(term, _put_together, change)) for name, term in definitions]), main)
 
 
 class Change:
@@ -28,30 +28,6 @@ class Change:
             return ()
         name = function_part[1]
         return self.table[name] if len(arguments) >= self.arities[name] else ()
-
-
-def _strict(change, term):
-    """The term made strict, from the inside to the outside."""
-    done = []
-    todo = [(term, False)]
-    while todo:
-        part, ready = todo.pop()
-        below = _pieces(part)
-        if ready or not below:
-            start = len(done) - len(below)
-            done[start:] = [_put_together(change, part, done[start:])]
-        else:
-            todo.append((part, True))
-            todo.extend([(inner, False) for inner in below[::-1]])
-    return done[0]
-
-
-def _pieces(term):
-    """The parts of a term; those of a call are its function part and its arguments."""
-    if term[0] != "app":
-        return parts_of(term)
-    function_part, arguments = call_parts(term)
-    return [function_part, *arguments]
 
 
 def _put_together(change, term, pieces):

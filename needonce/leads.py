@@ -5,7 +5,8 @@ is a list of tasks, pairs of a word and a thing, the next one last. Where the le
 the term of a let or of a branch, its finding is put on a stack, and the present one goes on when it is found.
 """
 
-from needonce.core import COMPARISONS, free_names
+from needonce.core import free_names
+from needonce.forms import COMPARISONS
 from needonce.parts import call_parts
 
 # What is evaluated next may note, fault or go on for ever.

@@ -5,7 +5,7 @@ An environment is a dict from names to what they stand for: ("term", term, envir
 done with a head; its environment is the last member.
 """
 
-from needonce.core import LARGEST_NUMBER
+from needonce.forms import LARGEST_NUMBER
 
 FAULTS = ("no match", "division by zero", "overflow")
 

@@ -62,6 +62,25 @@ def rebuild(term, before, after, held):
     return done[0]
 
 
+def rebuild_pieces(term, put_together, held):
+    """Returns what becomes of a term, from the inside to the outside: put_together(held, term, made).
+
+    The list made is what has become of the parts of the term; those of a call are its function part and its arguments.
+    """
+    done = []
+    todo = [(term, False)]
+    while todo:
+        part, ready = todo.pop()
+        below = _pieces(part)
+        if ready or not below:
+            start = len(done) - len(below)
+            done[start:] = [put_together(held, part, done[start:])]
+        else:
+            todo.append((part, True))
+            todo.extend([(inner, False) for inner in below[::-1]])
+    return done[0]
+
+
 def unchanged(held, term):
     """A before or after that changes nothing."""
     return term
@@ -74,6 +93,22 @@ def call_parts(term):
         arguments.append(term[2])
         term = term[1]
     return term, arguments[::-1]
+
+
+def lam_parts(term):
+    """Returns the list of the names of the lams at the beginning of a term, and the term behind them."""
+    names = []
+    while term[0] == "lam":
+        names.append(term[1])
+        term = term[2]
+    return names, term
+
+
+def _pieces(term):
+    if term[0] != "app":
+        return parts_of(term)
+    function_part, arguments = call_parts(term)
+    return [function_part, *arguments]
 
 
 def _own_names(term):
@@ -97,7 +132,7 @@ def _default_parts(term):
     return () if term[3] is None else (term[3][1],)
 
 
-def _lam_parts(term):
+def _lam_body(term):
     return (term[2],)
 
 
@@ -125,7 +160,7 @@ def _choice_parts(term):
     return (term[1], *[alternative[-1] for alternative in term[2]], *_default_parts(term))
 
 
-PARTS = {"app": _app_parts, "lam": _lam_parts, "let": _let_parts, "seq": _later_parts, "con": _con_parts,
+PARTS = {"app": _app_parts, "lam": _lam_body, "let": _let_parts, "seq": _later_parts, "con": _con_parts,
          "case": _choice_parts, "pick": _choice_parts, "prim": _later_parts, "note": _note_parts}
 
 

@@ -2,6 +2,7 @@
 
 from needonce.core import arity
 from needonce.leads import Known, find_lead
+from needonce.parts import lam_parts
 
 
 def lead(program, table, term):
@@ -19,7 +20,7 @@ def holds_table(program, table):
         if name not in terms or name in seen or not _are_indexes(indexes, arities[name]):
             return False
         seen[name] = True
-        parameters, body = _split(terms[name])
+        parameters, body = lam_parts(terms[name])
         wanted = tuple([parameters[index] for index in indexes])
         names, _ = find_lead(Known(arities, table[:at]), body)
         if names[:len(wanted)] != wanted:
@@ -44,7 +45,7 @@ def make_table(program):
         before = len(table)
         for name, term in definitions:
             if name not in found and arities[name] > 0:
-                parameters, body = _split(term)
+                parameters, body = lam_parts(term)
                 names, _ = find_lead(Known(arities, table), body)
                 if names:
                     found[name] = True
@@ -55,12 +56,3 @@ def make_table(program):
 def _arities(program):
     definitions, _ = program
     return {name: arity(term) for name, term in definitions}
-
-
-def _split(term):
-    """The parameters of a function, and its body behind its lams."""
-    parameters = []
-    while term[0] == "lam":
-        parameters.append(term[1])
-        term = term[2]
-    return parameters, term

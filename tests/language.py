@@ -131,7 +131,7 @@ def functions(tree):
         if isinstance(node, ast.FunctionDef):
             if node.end_lineno - node.lineno + 1 > 40:
                 found.append((node.lineno, "L10 more than 40 lines"))
-            if node.decorator_list:
+            if node.decorator_list and not is_property(node):
                 found.append((node.lineno, "L4 a decorator"))
             for value in [*node.args.defaults, *node.args.kw_defaults]:
                 if value is not None and not isinstance(value, (ast.Constant, ast.UnaryOp, ast.Tuple)):
@@ -139,6 +139,14 @@ def functions(tree):
             if node.name.startswith("__") and node.name not in DOUBLE:
                 found.append((node.lineno, "L5 a double-underscore method"))
     return found
+
+
+def is_property(node):
+    """Whether this is a property that plainly changes nothing: a docstring, and a return without a call."""
+    plain = [ast.unparse(decorator) for decorator in node.decorator_list] == ["property"]
+    rows = [row for row in node.body if not (isinstance(row, ast.Expr) and isinstance(row.value, ast.Constant))]
+    calls = [part for part in ast.walk(node) if isinstance(part, ast.Call)]
+    return plain and isinstance(node.parent, ast.ClassDef) and not calls and [type(row) for row in rows] == [ast.Return]
 
 
 def classes(tree):
@@ -254,6 +262,7 @@ def used_names(tree):
         if isinstance(node, ast.Name) and node.id in BUILTINS and isinstance(node.ctx, ast.Load):
             call = node.parent
             in_place = (isinstance(call, ast.Call) and call.func is node) or isinstance(call, (ast.ClassDef, ast.Raise))
+            in_place = in_place or (isinstance(call, ast.FunctionDef) and is_property(call))
             held = isinstance(call, ast.Call) and isinstance(call.func, ast.Name) and call.func.id == "isinstance"
             base = isinstance(call, ast.Attribute) and call.attr == "__init__"
             if not in_place and not held and not base:

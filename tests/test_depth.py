@@ -5,10 +5,16 @@ import sys
 import unittest
 
 from needonce.apply_table import apply_table
+from needonce.check import check_code
+from needonce.code import compile_program
 from needonce.core import bound_names, check_program, free_names, is_apart, is_term, size
 from needonce.elaborate import elaborate
+from needonce.image import read_image, write_image
 from needonce.infer import infer_program
+from needonce.lift import core_of_lifted, lift
 from needonce.meaning import head_of, shown
+from needonce.normal import core_of, is_normal, normal_form
+from needonce.run import run_code
 from needonce.simplify import rename_apart, simplify
 from needonce.strict import holds_table, lead, make_table
 from tests.core_text import program
@@ -41,7 +47,7 @@ class DepthTest(unittest.TestCase):
     def test_terms(self):
         for place in PLACES:
             deep = A
-            for k in range(500):
+            for k in range(300):
                 deep = place(deep, k)
             whole = program(GLOBALS)
             whole = (((*whole[0], ("f", ("lam", "a", deep)))), "f")
@@ -57,6 +63,21 @@ class DepthTest(unittest.TestCase):
             check_program(simplify(whole))
             head_of(whole, ("app", ("var", "f"), ONE), 3000)
             shown(whole, 10)
+            self.to_code(whole[0])
+
+    def to_code(self, definitions):
+        """From a core program that calls the deep function to what its code shows."""
+        call = ("con", 1, (("app", ("var", "f"), ONE), ("con", 0, ())))
+        lifted = lift(((*definitions, ("start", call)), "start"))
+        check_program(core_of_lifted(lifted))
+        normal = normal_form(lifted)
+        self.assertTrue(is_normal(normal))
+        check_program(core_of(normal))
+        code = compile_program(*normal)
+        self.assertIsNone(check_code(code))
+        row = write_image(code)
+        self.assertEqual(write_image(read_image(row)), row)
+        run_code(code, 5000, [100, 500], 3000)
 
     def test_trees(self):
         for tree in DEEP.values():

@@ -3,11 +3,12 @@
 import inspect
 import unittest
 
-from needonce import (apply_table, checker, core, elaborate, errors, groups, infer, layout, meaning, parser, prelude,
-                      printing, scopes, simplify, strict, tokens, types, unify)
+from needonce import (apply_table, check, checker, code, collect, core, elaborate, errors, groups, heap, image, infer,
+                      layout, lift, machine, meaning, normal, parser, prelude, printing, run, scopes, simplify, strict,
+                      tokens, types, unify)
 from tests.making import Maker
 
-# The interface of the parts that have landed: the names that stand in each file.
+# The interface: the names that stand in each file.
 INTERFACE = (
     (tokens, ("tokens",), ("KEYWORDS",)),
     (layout, ("layout",), ()),
@@ -22,7 +23,18 @@ INTERFACE = (
     (core, ("is_term", "free_names", "size", "program_size", "arity", "check_program", "bound_names", "is_apart"), ()),
     (meaning, ("head_of", "shown"), ("FAULTS",)), (strict, ("lead", "holds_table", "make_table"), ()),
     (apply_table, ("apply_table",), ()), (simplify, ("rename_apart", "simplify"), ()),
+    (lift, ("lift", "core_of_lifted"), ()), (normal, ("normal_form", "is_normal", "core_of"), ()),
+    (code, ("compile_program",), ()), (check, ("check_code",), ()), (image, ("write_image", "read_image"), ()),
+    (heap, ("size_of",), ()), (collect, ("roots", "collect_cells"), ()),
+    (run, ("run_code", "pages", "compile_text", "run_text"), ()),
 )
+CLASSES = (
+    (unify, "Unifier", ("fresh", "resolve", "unify"), ()),
+    (heap, "Heap", ("make", "cell", "put", "addresses", "fits", "renew"), ("room", "used")),
+    (machine, "Machine", ("step", "collect", "stopped"), ("heap", "stack", "now", "events", "entered", "collections")),
+)
+
+NOTHING = (((0, ("con", 0, ())),), 0)
 
 TEXT = """
 data Tree a = Leaf | Node (Tree a) a (Tree a)
@@ -60,10 +72,16 @@ class InterfaceTest(unittest.TestCase):
                     self.assertEqual(getattr(module, name).__module__, module.__name__)
 
     def test_classes_are_defined_in_their_files(self):
-        for module, name, methods in ((unify, "Unifier", ("fresh", "resolve", "unify")),):
+        for module, name, methods, _ in CLASSES:
             self.assertEqual(getattr(module, name).__module__, module.__name__)
             for method in methods:
                 self.assertIn(method, vars(getattr(module, name)))
+
+    def test_attributes_are_set_at_the_beginning(self):
+        made = {"Unifier": unify.Unifier(), "Heap": heap.Heap(5), "Machine": machine.Machine(NOTHING, 5)}
+        for _, name, _, attributes in CLASSES:
+            for attribute in attributes:
+                self.assertIn(attribute, vars(made[name]))
 
     def test_values_exist(self):
         for module, _, names in INTERFACE:
@@ -78,7 +96,7 @@ class InterfaceTest(unittest.TestCase):
         self.assertEqual(groups.binding_groups(own, ("insert",)), (("insert",), ("main",)))
 
     def test_the_way_of_a_program(self):
-        """From a text to its core, made simpler and strict: it shows the same all the way."""
+        """From a text to its core, made simpler and strict, and to its code: it shows the same all the way."""
         whole = checker.check(TEXT)
         simple = simplify.simplify(whole)
         table = strict.make_table(simple)
@@ -90,6 +108,20 @@ class InterfaceTest(unittest.TestCase):
             self.assertEqual(state, ("end",))
         self.assertTrue(strict.holds_table(simple, table))
         self.assertIn(("insert", (1,)), table)
+        lifted = lift.lift(new)
+        form = normal.normal_form(lifted)
+        self.assertTrue(normal.is_normal(form))
+        for each in (lift.core_of_lifted(lifted), normal.core_of(form)):
+            self.assertIsNone(core.check_program(each))
+            self.assertEqual(run.pages(meaning.shown(each, 10000)[0]), run.pages(events))
+        functions, main = form
+        whole = code.compile_program(functions, main)
+        self.assertIsNone(check.check_code(whole))
+        self.assertEqual(image.read_image(image.write_image(whole)), whole)
+        self.assertEqual(run.compile_text(TEXT), whole)
+        report = run.run_code(whole, 10000, [], 10000)
+        self.assertEqual((run.pages(report[0]), report[1]), (run.pages(events), ("end",)))
+        self.assertEqual(run.run_text(TEXT, 10000, [], 10000), report)
 
 
 class ValuesTest(unittest.TestCase):
@@ -111,6 +143,24 @@ class ValuesTest(unittest.TestCase):
         self.assertIs(type(strict.lead(simple, table, ("var", "x"))[1]), bool)
         self.assertIs(type(core.free_names(("var", "x"))), list)
         self.assertIs(type(core.bound_names(("var", "x"))), list)
+
+    def test_code_programs_and_what_they_show(self):
+        lifted = lift.lift(simplify.simplify(checker.check(TEXT)))
+        form = normal.normal_form(lifted)
+        whole = run.compile_text(TEXT)
+        for value in (lifted, lift.core_of_lifted(lifted), form, normal.core_of(form), whole,
+                      image.read_image(image.write_image(whole)), run.run_code(whole, 100, [3], 900)):
+            self.assertTrue(only_values(value))
+        self.assertTrue(only_values(tuple(image.write_image(whole))))
+        self.assertTrue(only_values(tuple(run.pages(run.run_code(whole, 100, [], 900)[0]))))
+        one = machine.Machine(whole, 100)
+        for _ in range(50):
+            one.step()
+            cells = tuple(one.heap.cell(address) for address in one.heap.addresses())
+            self.assertTrue(only_values((*one.stack, one.now, *one.events, *one.entered, *cells, one.heap.used)))
+        self.assertIs(type(normal.is_normal(form)), bool)
+        self.assertIs(type(one.stopped), bool)
+        self.assertIs(type(one.heap.fits(3)), bool)
 
     def test_tokens_are_tuples_of_integers_and_strings(self):
         for row in (tokens.tokens(TEXT), layout.layout(tokens.tokens(TEXT))):

@@ -14,6 +14,8 @@ WRONG = (
     ("L2", "from os import path\n"), ("L2", "from needonce.tokens import tokens as t\n"), ("L2", "from . import a\n"),
     ("L16", "import heapq\n"), ("L3", "a = 1\na += 1\n"), ("L3", "print(1)\n"), ("L3", "A, B = 1, 2\n"),
     ("L3", "A = len([])\n"), ("L3", "A = 1\nB = (A,)\n"), ("L4", "def f(x=[]):\n    return x\n"), ("L5", "class A:\n    x = []\n"),
+    ("L4", "class A:\n    @property\n    def f(self):\n        return g(self)\n"),
+    ("L4", "class A:\n    @other\n    def f(self):\n        return self.x\n"),
     ("L6", "def f():\n    global x\n"), ("L7", "def f():\n    return 1.5\n"), ("L7", "def f(x):\n    return x / 2\n"),
     ("L8", "def f():\n    return hash(1)\n"), ("L8", "def f():\n    print(1)\n"),
     ("L10", "def f():\n" + "    pass\n" * 40), ("L10", "A = 1\n" * 400), ("L10", f"A = '{'a' * 120}'\n"),
