@@ -360,7 +360,8 @@ def slow_collect_cells(cells, global_count, stack, now):
             return (kind, new(2 * thing[1]) // 2)
         if kind in ("head", "on", "value", "enter"):
             return (kind, new(thing[1]))
-        place = {"apply": 1, "seq": 2, "eval": 2, "con": 2, "part": 2, "later": 2, "case": 3, "pick": 3, "right": 3}.get(kind)
+        place = {"apply": 1, "seq": 2, "eval": 2, "con": 2, "part": 2, "later": 2, "case": 3, "pick": 3,
+                 "right": 3}.get(kind)
         if place is None:
             return thing
         return thing[:place] + (tuple(map(new, thing[place])),) + thing[place + 1:]

@@ -37,13 +37,15 @@ class RootsTest(unittest.TestCase):
 
     def test_what_the_machine_does(self):
         for now, words in ((("eval", BODY, (6, 5, 4)), [6, 5, 4]), (("eval", BODY, ()), []), (("value", 6), [6]),
-                           (("value", 7), [7]), (("enter", 8), [8]), (("enter", 9), [9]), (END, []), (("fault", "overflow"), []),
+                           (("value", 7), [7]), (("enter", 8), [8]), (("enter", 9), [9]), (END, []),
+                           (("fault", "overflow"), []),
                            (("loop",), []), (("full",), []), (("stuck",), [])):
             self.assertEqual(roots(0, [], now), words)
             self.assertEqual(roots(1, [("head", 3)], now), [0, 3, *words])
 
     def test_the_order(self):
-        stack = [("show",), ("head", 20), ("update", 3), ("apply", (8, 1)), ("right", "+", ("number", 5), (2,)), ("prim", "*", 2)]
+        stack = [("show",), ("head", 20), ("update", 3), ("apply", (8, 1)), ("right", "+", ("number", 5), (2,)),
+                 ("prim", "*", 2)]
         self.assertEqual(roots(3, stack, ("eval", BODY, (10, 0))), [0, 2, 4, 20, 6, 8, 1, 2, 10, 0])
 
     def test_arguments_stay(self):
@@ -92,13 +94,15 @@ class LiveTest(CollectCase):
 
     def test_each_kind_of_frame(self):
         cells = {0: con(), 5: con(11), 7: con(13)}
-        for frame, new in ((("head", 14), ("head", 2)), (("head", 15), ("head", 15)), (("apply", (3, 14)), ("apply", (3, 2))),
+        for frame, new in ((("head", 14), ("head", 2)), (("head", 15), ("head", 15)),
+                           (("apply", (3, 14)), ("apply", (3, 2))),
                            (("case", ALTERNATIVES, BODY, (14, 1)), ("case", ALTERNATIVES, BODY, (2, 1))),
                            (("pick", ((4, BODY),), None, (14,)), ("pick", ((4, BODY),), None, (2,))),
                            (("seq", BODY, (14, 14)), ("seq", BODY, (2, 2))),
                            (("right", "-", ("slot", 14), (14,)), ("right", "-", ("slot", 14), (2,)))):
             self.leaves((cells, 1, [("show",), frame], END),
-                        ({0: con(), 1: con(13)} if new != frame else {0: con()}, 1 + (new != frame), [("show",), new], END))
+                        ({0: con(), 1: con(13)} if new != frame else {0: con()}, 1 + (new != frame), [("show",), new],
+                         END))
         for frame in (("show",), ("prim", "+", 14)):
             self.leaves((cells, 1, [frame], END), ({0: con()}, 1, [frame], END))
 
@@ -112,7 +116,8 @@ class LiveTest(CollectCase):
             self.leaves((cells, 1, [], now), ({0: con()}, 1, [], now))
 
     def test_each_kind_of_cell(self):
-        for cell, new in ((con(14, 3), con(4, 3)), (("part", 7, (14,)), ("part", 7, (4,))), (later(7, 14, 1), later(7, 4, 1)),
+        for cell, new in ((con(14, 3), con(4, 3)), (("part", 7, (14,)), ("part", 7, (4,))),
+                          (later(7, 14, 1), later(7, 4, 1)),
                           (("con", 7, ()), ("con", 7, ()))):
             cells = {0: con(), 4: cell, 7: con(5)}
             expected = {0: con(), 1: new} if new == ("con", 7, ()) else {0: con(), 1: new, 2: con(5)}
@@ -121,8 +126,10 @@ class LiveTest(CollectCase):
     def test_update_frames_and_holes(self):
         cells = {0: con(), 3: ("hole",), 4: con(1), 5: ("hole",)}
         self.leaves((cells, 1, [("show",), ("update", 5), ("update", 3)], ("value", 1)),
-                    ({0: con(), 1: ("hole",), 2: ("hole",)}, 3, [("show",), ("update", 1), ("update", 2)], ("value", 1)))
-        self.leaves((cells, 1, [("update", 5)], ("enter", 10)), ({0: con(), 1: ("hole",)}, 2, [("update", 1)], ("enter", 2)))
+                    ({0: con(), 1: ("hole",), 2: ("hole",)}, 3, [("show",), ("update", 1), ("update", 2)],
+                     ("value", 1)))
+        self.leaves((cells, 1, [("update", 5)], ("enter", 10)), ({0: con(), 1: ("hole",)}, 2, [("update", 1)],
+                                                                 ("enter", 2)))
         self.leaves((cells, 1, [("update", 0)], ("enter", 3)), ({0: con()}, 1, [("update", 0)], ("enter", 3)))
 
     def test_circles(self):
@@ -138,7 +145,8 @@ class OnTest(CollectCase):
                     ({0: con(), 1: con(7, 2, 0)}, 2, [], ("value", 2)))
 
     def test_several_in_a_row(self):
-        self.leaves(({0: con(), 1: ("on", 4), 2: ("on", 6), 3: ("on", 8), 4: con(2, 6)}, 1, [("apply", (2, 4, 6, 8))], ("enter", 2)),
+        self.leaves(({0: con(), 1: ("on", 4), 2: ("on", 6), 3: ("on", 8), 4: con(2, 6)}, 1, [("apply", (2, 4, 6, 8))],
+                     ("enter", 2)),
                     ({0: con(), 1: con(2, 2)}, 2, [("apply", (2, 2, 2, 2))], ("enter", 2)))
         self.leaves(({0: con(), 1: ("on", 4), 2: ("on", 6), 3: ("on", 1)}, 1, [("seq", BODY, (2, 4, 6))], ("enter", 2)),
                     ({0: con()}, 1, [("seq", BODY, (1, 1, 1))], ("enter", 1)))
@@ -148,7 +156,8 @@ class OnTest(CollectCase):
                     ({0: ("on", 4), 1: con(4, 2), 2: con(4)}, 3, [("head", 4)], ("enter", 4)))
         self.leaves(({0: ("on", 2), 1: ("on", 5), 2: con(0)}, 2, [("head", 0)], ("enter", 4)),
                     ({0: ("on", 5), 1: ("on", 5), 2: con(5)}, 3, [("head", 5)], ("enter", 4)))
-        self.leaves(({0: ("on", 4), 1: con(), 2: ("on", 2)}, 2, [], ("enter", 0)), ({0: ("on", 2), 1: con()}, 2, [], ("enter", 2)))
+        self.leaves(({0: ("on", 4), 1: con(), 2: ("on", 2)}, 2, [], ("enter", 0)),
+                    ({0: ("on", 2), 1: con()}, 2, [], ("enter", 2)))
 
     def test_in_every_kind_of_cell(self):
         cells = {0: con(), 1: ("on", 9), 2: later(5, 2, 2), 3: ("part", 0, (2, 1)), 4: con(4, 6, 2)}
@@ -160,7 +169,8 @@ class OnTest(CollectCase):
                  ("right", "+", ("slot", 0), (2,))]
         new = [("head", 9), ("apply", (9,)), ("case", (), None, (9,)), ("pick", (), None, (9,)), ("seq", BODY, (9,)),
                ("right", "+", ("slot", 0), (9,))]
-        self.leaves(({0: con(), 1: ("on", 9)}, 1, stack, ("eval", BODY, (2, 0))), ({0: con()}, 1, new, ("eval", BODY, (9, 0))))
+        self.leaves(({0: con(), 1: ("on", 9)}, 1, stack, ("eval", BODY, (2, 0))),
+                    ({0: con()}, 1, new, ("eval", BODY, (9, 0))))
 
 
 class OrderTest(CollectCase):
@@ -179,7 +189,8 @@ class OrderTest(CollectCase):
     def test_words_of_cells_in_the_order_of_new_addresses(self):
         cells = {0: con(), 1: con(10, 8), 2: con(6), 3: con(103), 4: con(14), 5: con(12), 6: con(161), 7: con(107)}
         self.leaves((cells, 1, [("apply", (4, 2))], ("enter", 1)),
-                    ({0: con(), 1: con(6), 2: con(8, 10), 3: con(103), 4: con(12), 5: con(14), 6: con(161), 7: con(107)}, 8,
+                    ({0: con(), 1: con(6), 2: con(8, 10), 3: con(103), 4: con(12), 5: con(14), 6: con(161),
+                      7: con(107)}, 8,
                      [("apply", (2, 4))], ("enter", 1)))
 
     def test_a_global_on_cell_as_a_root(self):
@@ -203,12 +214,15 @@ class OrderTest(CollectCase):
             cells = {}
             for address in addresses:
                 above = [2 * each for each in addresses if each > address] + [7]
-                cells[address] = chance.choice((("con", 3, words()), ("part", 1, words()), ("later", BODY, words(), address),
+                cells[address] = chance.choice((("con", 3, words()), ("part", 1, words()),
+                                                ("later", BODY, words(), address),
                                                 ("hole",), ("on", chance.choice(above)), ("on", chance.choice(above))))
             holes = [address for address in addresses if cells[address] == ("hole",)]
-            frames = [("show",), ("head", word()), ("apply", words()), ("case", (), BODY, words()), ("pick", (), None, words()),
+            frames = [("show",), ("head", word()), ("apply", words()), ("case", (), BODY, words()),
+                      ("pick", (), None, words()),
                       ("seq", BODY, words()), ("right", "+", ("slot", 0), words()), ("prim", "+", 6)]
-            stack = [chance.choice(frames) for _ in range(chance.randrange(4))] + [("update", address) for address in holes[:1]]
+            stack = [chance.choice(frames) for _ in range(chance.randrange(4))] + [("update",
+                                                                                    address) for address in holes[:1]]
             now = chance.choice((("eval", BODY, words()), ("value", word()), ("enter", word()), ("stuck",)))
             self.assertEqual(roots(many, stack, now), slow_roots(many, stack, now))
             before = repr((cells, stack))

@@ -21,7 +21,8 @@ class SizeTest(unittest.TestCase):
         self.assertEqual(size_of(("on", 10 ** 20 + 1)), 2)
 
     def test_cells_without_words(self):
-        self.assertEqual([size_of(cell) for cell in (("con", 5, ()), ("part", 5, ()), ("later", BODY, (), 5))], [1, 1, 2])
+        self.assertEqual([size_of(cell) for cell in (("con", 5, ()), ("part", 5, ()), ("later", BODY, (), 5))],
+                         [1, 1, 2])
 
     def test_a_cell_does_not_grow(self):
         for many in range(4):

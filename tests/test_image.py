@@ -66,7 +66,8 @@ class WriteTest(ImageCase):
             self.body(("prim", sign, ("slot", 4), ("number", 5)), 3, index, 0, 4, 2, 5)
 
     def test_lets(self):
-        self.body(("let", (("con", 3, (("slot", 5),)), ("part", 4, ())), ("give", ("slot", 6))), 4, 2, 1, 3, 1, 0, 5, 2, 4, 0,
+        self.body(("let", (("con", 3, (("slot", 5),)), ("part", 4, ())), ("give", ("slot", 6))), 4, 2, 1, 3, 1, 0, 5,
+                  2, 4, 0,
                   0, 0, 6)
 
     def test_members(self):
@@ -81,12 +82,14 @@ class WriteTest(ImageCase):
 
     def test_seqs(self):
         self.body(("seq", ONE, ("give", ("slot", 2))), 5, *ONE_ROW, 0, 0, 2)
-        self.body(("seq", ("seq", ONE, ONE), ("seq", ONE, ("con", 0, ()))), 5, 5, *ONE_ROW, *ONE_ROW, 5, *ONE_ROW, 2, 0, 0)
+        self.body(("seq", ("seq", ONE, ONE), ("seq", ONE, ("con", 0, ()))), 5, 5, *ONE_ROW, *ONE_ROW, 5, *ONE_ROW, 2,
+                  0, 0)
 
     def test_cases(self):
         self.body(("case", ONE, (), None), 6, *ONE_ROW, 0, 0)
         self.body(("case", ONE, (), ("con", 4, ())), 6, *ONE_ROW, 0, 1, 2, 4, 0)
-        self.body(("case", ONE, ((7, 2, ("con", 5, ())), (0, 0, ONE)), None), 6, *ONE_ROW, 2, 7, 2, 2, 5, 0, 0, 0, *ONE_ROW, 0)
+        self.body(("case", ONE, ((7, 2, ("con", 5, ())), (0, 0, ONE)), None), 6, *ONE_ROW, 2, 7, 2, 2, 5, 0, 0, 0,
+                  *ONE_ROW, 0)
         self.body(("case", ("con", 1, ()), ((1, 3, ("case", ONE, ((2, 9, ONE),), ONE)),), ("con", 2, ())),
                   6, 2, 1, 0, 1, 1, 3, 6, *ONE_ROW, 1, 2, 9, *ONE_ROW, 1, *ONE_ROW, 1, 2, 2, 0)
 

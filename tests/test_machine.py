@@ -55,7 +55,8 @@ class MachineCase(unittest.TestCase):
         self.assertEqual(machine.now, now)
         self.assertEqual(machine.stack, [("show",), *frames])
         found = [machine.heap.cell(address) for address in machine.heap.addresses()[5:]]
-        self.assertEqual(found, [cell for address, cell in whole["cells"].items() if address > 4] if cells is None else cells)
+        self.assertEqual(found,
+                         [cell for address, cell in whole["cells"].items() if address > 4] if cells is None else cells)
         self.assertEqual(machine.events, whole["events"] + (events or []))
         self.assertEqual(machine.entered, whole["entered"] + (entered or []))
         self.assertEqual(machine.collections, whole["collections"])
@@ -78,8 +79,10 @@ class BeginningTest(MachineCase):
         machine = Machine(PROGRAM, 100)
         self.assertIsInstance(machine.heap, Heap)
         self.assertEqual(state_of(machine), {
-            "cells": {0: ("later", NIL, (), 0), 1: ("part", 1, ()), 2: ("part", 2, ()), 3: ("part", 3, ()), 4: ("later", ONE, (), 4)},
-            "stack": [("show",)], "now": ("enter", 0), "events": [], "entered": [], "collections": 0, "used": 7, "room": 100})
+            "cells": {0: ("later", NIL, (), 0), 1: ("part", 1, ()), 2: ("part", 2, ()), 3: ("part", 3, ()),
+                      4: ("later", ONE, (), 4)},
+            "stack": [("show",)], "now": ("enter", 0), "events": [], "entered": [], "collections": 0, "used": 7,
+            "room": 100})
         self.assertEqual([type(part) for part in (machine.stack, machine.events, machine.entered)], [list] * 3)
         self.assertIs(machine.stopped, False)
 
@@ -131,9 +134,11 @@ class EnterTest(MachineCase):
         self.stops(machine, ("loop",))
 
     def test_laters(self):
-        self.step(self.machine(("enter", 10), cells=[("later", BODY, (1, 2, 3), 77)]), ("eval", BODY, (1, 2, 3)), ("update", 5),
+        self.step(self.machine(("enter", 10), cells=[("later", BODY, (1, 2, 3), 77)]), ("eval", BODY, (1, 2, 3)),
+                  ("update", 5),
                   cells=[("hole",)], entered=[77])
-        self.step(self.machine(("enter", 10), ("head", 1), cells=[("later", ONE, (), 8)]), ("eval", ONE, ()), ("head", 1), ("update", 5),
+        self.step(self.machine(("enter", 10), ("head", 1), cells=[("later", ONE, (), 8)]), ("eval", ONE, ()),
+                  ("head", 1), ("update", 5),
                   cells=[("hole",)], entered=[8])
         machine = self.machine(("enter", 8))
         self.step(machine, ("eval", ONE, ()), ("update", 4), entered=[4])
@@ -153,8 +158,10 @@ class EvalTest(MachineCase):
         self.step(self.machine(("eval", body, self.FRAME), ("head", 3)), now, ("head", 3), *frames, **more)
 
     def test_operands(self):
-        for operand, word in ((slot(0), 11), (slot(1), 14), (slot(2), 0), (("global", 0), 0), (("global", 3), 6), (number(0), 1),
-                              (number(5), 11), (number(-1), -1), (number(-LIMIT), -2 * LIMIT + 1), (number(LIMIT), 2 * LIMIT + 1)):
+        for operand, word in ((slot(0), 11), (slot(1), 14), (slot(2), 0), (("global", 0), 0), (("global", 3), 6),
+                              (number(0), 1),
+                              (number(5), 11), (number(-1), -1), (number(-LIMIT), -2 * LIMIT + 1),
+                              (number(LIMIT), 2 * LIMIT + 1)):
             self.evaluates(("give", operand), ("enter", word))
             self.evaluates(("call", operand, (number(4),)), ("enter", word), ("apply", (9,)))
             self.evaluates(("call", number(0), (operand, operand)), ("enter", 1), ("apply", (word, word)))
@@ -173,10 +180,12 @@ class EvalTest(MachineCase):
             self.evaluates(("prim", sign, slot(0), slot(1)), ("enter", 11), ("right", sign, slot(1), self.FRAME))
 
     def test_lets(self):
-        self.evaluates(("let", (("con", 7, (slot(0), slot(3))),), BODY), ("eval", BODY, (11, 14, 0, 10)), cells=[("con", 7, (11, 10))])
+        self.evaluates(("let", (("con", 7, (slot(0), slot(3))),), BODY), ("eval", BODY, (11, 14, 0, 10)),
+                       cells=[("con", 7, (11, 10))])
         self.evaluates(("let", (("later", (slot(4), slot(1)), ONE), ("part", 3, (slot(3), number(2))), ("con", 0, ()),
                                 ("later", (), BODY)), BODY), ("eval", BODY, (11, 14, 0, 10, 12, 14, 16)),
-                       cells=[("later", ONE, (12, 14), 5), ("part", 3, (10, 5)), ("con", 0, ()), ("later", BODY, (), 6)])
+                       cells=[("later", ONE, (12, 14), 5), ("part", 3, (10, 5)), ("con", 0, ()),
+                              ("later", BODY, (), 6)])
 
     def test_serials_go_on(self):
         machine = Machine((((0, ("let", (("later", (), ONE), ("con", 0, ()), ("later", (), ONE)),
@@ -190,8 +199,10 @@ class EvalTest(MachineCase):
         self.evaluates(("seq", ONE, BODY), ("eval", ONE, self.FRAME), ("seq", BODY, self.FRAME))
         alternatives = ((3, 1, ONE), (4, 0, BODY))
         for default in (None, BODY):
-            self.evaluates(("case", ONE, alternatives, default), ("eval", ONE, self.FRAME), ("case", alternatives, default, self.FRAME))
-            self.evaluates(("pick", ONE, ((3, BODY),), default), ("eval", ONE, self.FRAME), ("pick", ((3, BODY),), default, self.FRAME))
+            self.evaluates(("case", ONE, alternatives, default), ("eval", ONE, self.FRAME),
+                           ("case", alternatives, default, self.FRAME))
+            self.evaluates(("pick", ONE, ((3, BODY),), default), ("eval", ONE, self.FRAME),
+                           ("pick", ((3, BODY),), default, self.FRAME))
         self.evaluates(("case", BODY, (), None), ("eval", BODY, self.FRAME), ("case", (), None, self.FRAME))
 
     def test_notes(self):
@@ -311,14 +322,18 @@ class PrimTest(ValueCase):
     def test_numbers(self):
         for sign, one, other, result in (
                 ("+", 3, 4, 7), ("+", -3, 1, -2), ("-", 3, 4, -1), ("-", 4, -3, 7), ("*", 3, -4, -12), ("*", 0, 5, 0),
-                ("div", 7, 2, 3), ("div", -7, 2, -4), ("div", 7, -2, -4), ("div", -7, -2, 3), ("div", 6, -2, -3), ("div", 0, 5, 0),
-                ("mod", 7, 2, 1), ("mod", -7, 2, 1), ("mod", 7, -2, -1), ("mod", -7, -2, -1), ("mod", 6, -2, 0), ("mod", 1, 5, 1),
-                ("+", LIMIT - 1, 1, LIMIT), ("-", 1 - LIMIT, 1, -LIMIT), ("*", LIMIT // 2, -2, -LIMIT), ("*", LIMIT // 2, 2, LIMIT),
+                ("div", 7, 2, 3), ("div", -7, 2, -4), ("div", 7, -2, -4), ("div", -7, -2, 3), ("div", 6, -2, -3),
+                ("div", 0, 5, 0),
+                ("mod", 7, 2, 1), ("mod", -7, 2, 1), ("mod", 7, -2, -1), ("mod", -7, -2, -1), ("mod", 6, -2, 0),
+                ("mod", 1, 5, 1),
+                ("+", LIMIT - 1, 1, LIMIT), ("-", 1 - LIMIT, 1, -LIMIT), ("*", LIMIT // 2, -2, -LIMIT),
+                ("*", LIMIT // 2, 2, LIMIT),
                 ("div", LIMIT, 1, LIMIT), ("div", LIMIT, -1, -LIMIT), ("mod", 5, LIMIT, 5)):
             self.meets(("prim", sign, one), 2 * other + 1, ("value", 2 * result + 1))
 
     def test_comparisons(self):
-        for sign, one, other, holds in (("==", 3, 3, 1), ("==", 3, 4, 0), ("<", 3, 4, 1), ("<", 3, 3, 0), ("<", 4, 3, 0), ("<=", 3, 4, 1),
+        for sign, one, other, holds in (("==", 3, 3, 1), ("==", 3, 4, 0), ("<", 3, 4, 1), ("<", 3, 3, 0),
+                                        ("<", 4, 3, 0), ("<=", 3, 4, 1),
                                         ("<=", 3, 3, 1), ("<=", 4, 3, 0), ("==", -1, 1, 0), ("<", -4, -3, 1)):
             self.meets(("prim", sign, one), 2 * other + 1, ("value", 26), cells=[("con", holds, ())])
 
@@ -328,7 +343,8 @@ class PrimTest(ValueCase):
             self.faults(("prim", "mod", one), 1, "division by zero")
 
     def test_overflow(self):
-        for sign, one, other in (("+", LIMIT, 1), ("-", -LIMIT, 1), ("-", LIMIT, -1), ("+", -LIMIT, -1), ("*", LIMIT, 2),
+        for sign, one, other in (("+", LIMIT, 1), ("-", -LIMIT, 1), ("-", LIMIT, -1), ("+", -LIMIT, -1),
+                                 ("*", LIMIT, 2),
                                  ("*", LIMIT // 2 + 1, 2), ("*", -LIMIT // 2 - 1, 2), ("*", LIMIT, LIMIT)):
             self.faults(("prim", sign, one), 2 * other + 1, "overflow")
 
@@ -341,11 +357,14 @@ class RoomTest(MachineCase):
     """The global cells have the size 7."""
 
     def test_just_enough_room(self):
-        let = ("let", (("con", 0, (number(1),)), ("part", 2, ()), ("later", (), ONE), ("later", (slot(0), slot(1)), ONE)), ONE)
+        let = ("let", (("con", 0, (number(1),)), ("part", 2, ()), ("later", (), ONE),
+                       ("later", (slot(0), slot(1)), ONE)), ONE)
         for now, frames, cells, need in (
-                (("eval", ("con", 4, ()), ()), (), (), 1), (("eval", ("con", 4, (number(1), number(2))), ()), (), (), 3),
+                (("eval", ("con", 4, ()), ()), (), (), 1), (("eval", ("con", 4, (number(1), number(2))), ()), (), (),
+                                                            3),
                 (("eval", let, ()), (), (), 2 + 1 + 2 + 3), (("value", 6), (("apply", (1,)),), (), 2),
-                (("value", 10), (("apply", (1,)),), [("part", 3, (1,))], 3), (("value", 1), (("prim", "==", 3),), (), 1)):
+                (("value", 10), (("apply", (1,)),), [("part", 3, (1,))], 3),
+                (("value", 1), (("prim", "==", 3),), (), 1)):
             before = 7 + sum(map(size_of, cells))
             with self.subTest(now):
                 machine = self.machine(now, *frames, cells=cells, room=before + need)
@@ -373,7 +392,8 @@ class RoomTest(MachineCase):
 
     def test_a_let_after_a_collection(self):
         cells = [("con", 9, (1, 1)), ("con", 8, (1,))]
-        machine = self.machine(("eval", ("let", (("later", (slot(0), slot(1)), ONE),), ONE), (12,)), cells=cells, room=12)
+        machine = self.machine(("eval", ("let", (("later", (slot(0), slot(1)), ONE),), ONE), (12,)), cells=cells,
+                               room=12)
         self.step_collects(machine, ("eval", ONE, (10, 12)), [("show",)],
                            {5: ("con", 8, (1,)), 6: ("later", ONE, (10, 12), 5)}, 12)
 
@@ -387,7 +407,8 @@ class RoomTest(MachineCase):
         """Heap and stack are as the collection left them, and no frame is popped."""
         cells = [("con", 9, (1, 1)), ("part", 3, (1,)), ("con", 8, ())]
         machine = self.machine(("value", 12), ("apply", (14,)), cells=cells, room=12)
-        self.step_collects(machine, ("full",), [("show",), ("apply", (10,))], {5: ("con", 8, ()), 6: ("part", 3, (1,))}, 10)
+        self.step_collects(machine, ("full",), [("show",), ("apply", (10,))],
+                           {5: ("con", 8, ()), 6: ("part", 3, (1,))}, 10)
         self.stops(machine, ("full",))
         machine = self.machine(("eval", ("con", 4, (slot(0), slot(1))), (14, 12)), ("head", 12),
                                cells=[("con", 9, (1, 1)), ("con", 8, (1,)), ("con", 7, ())], room=12)
@@ -402,24 +423,31 @@ class RoomTest(MachineCase):
         cells = [("con", 9, (1, 1))]
         machine = self.machine(("eval", ("con", 4, ()), ()), cells=cells, room=11)
         machine.step()
-        self.assertEqual((machine.now, machine.collections, machine.heap.addresses()), (("value", 12), 0, [0, 1, 2, 3, 4, 5, 6]))
+        self.assertEqual((machine.now, machine.collections, machine.heap.addresses()),
+                         (("value", 12), 0, [0, 1, 2, 3, 4, 5, 6]))
 
     def test_steps_that_need_nothing(self):
         """They are done in any case, also where the global cells do not fit."""
         for room in (0, 6):
-            for now, frames in ((("enter", 8), ()), (("enter", 2), ()), (("eval", ONE, ()), ()), (("value", 3), (("head", 1),)),
-                                (("eval", ("call", number(1), (number(1),)), ()), ()), (("eval", ("seq", ONE, ONE), ()), ()),
-                                (("eval", ("case", ONE, (), None), ()), ()), (("eval", ("pick", ONE, (), None), ()), ()),
-                                (("eval", ("note", 1, ONE), ()), ()), (("eval", ("prim", "==", number(1), number(1)), ()), ()),
+            for now, frames in ((("enter", 8), ()), (("enter", 2), ()), (("eval", ONE, ()), ()),
+                                (("value", 3), (("head", 1),)),
+                                (("eval", ("call", number(1), (number(1),)), ()), ()),
+                                (("eval", ("seq", ONE, ONE), ()), ()),
+                                (("eval", ("case", ONE, (), None), ()), ()),
+                                (("eval", ("pick", ONE, (), None), ()), ()),
+                                (("eval", ("note", 1, ONE), ()), ()), (("eval", ("prim", "==", number(1), number(1)),
+                                                                        ()), ()),
                                 (("value", 4), (("apply", (1, 3)),)), (("value", 4), (("apply", (1, 3, 5)),)),
                                 (("value", 3), (("prim", "+", 1),)), (("value", 3), (("seq", ONE, ()),)),
-                                (("value", 3), (("right", "==", number(1), ()),)), (("value", 3), (("pick", (), ONE, ()),))):
+                                (("value", 3), (("right", "==", number(1), ()),)),
+                                (("value", 3), (("pick", (), ONE, ()),))):
                 machine = self.machine(now, *frames, room=room)
                 machine.step()
                 self.assertEqual((machine.collections, machine.stopped), (0, False), now)
 
     def test_stuck_needs_nothing(self):
-        for now, frame in ((("value", 3), ("apply", (1,))), (("value", 6), ("prim", "==", 1)), (("value", 10), ("prim", "<", 1))):
+        for now, frame in ((("value", 3), ("apply", (1,))), (("value", 6), ("prim", "==", 1)),
+                           (("value", 10), ("prim", "<", 1))):
             machine = self.machine(now, frame, cells=[("con", 0, ())], room=0)
             machine.step()
             self.assertEqual((machine.now, machine.collections), (("stuck",), 0))
@@ -428,7 +456,8 @@ class RoomTest(MachineCase):
         machine = Machine((((0, ("note", 3, ("con", 0, ()))), (0, ONE), (2, ONE)), 0), 3)
         for _ in range(4):
             machine.step()
-        self.assertEqual((machine.now, machine.events, machine.collections, machine.heap.used), (("full",), [("note", 3)], 1, 5))
+        self.assertEqual((machine.now, machine.events, machine.collections, machine.heap.used),
+                         (("full",), [("note", 3)], 1, 5))
 
     def test_exactly_when_live_and_need_do_not_fit(self):
         for seed in range(60):
@@ -465,9 +494,11 @@ class CollectTest(MachineCase):
         machine.entered.append(4)
         self.assertIsNone(machine.collect())
         self.assertEqual(state_of(machine), {
-            "cells": {0: ("later", NIL, (), 0), 1: ("part", 1, ()), 2: ("part", 2, ()), 3: ("part", 3, ()), 4: ("hole",),
+            "cells": {0: ("later", NIL, (), 0), 1: ("part", 1, ()), 2: ("part", 2, ()), 3: ("part", 3, ()),
+                      4: ("hole",),
                       5: ("con", 8, (12,)), 6: ("later", ONE, (10, 3), 30)},
-            "stack": [("show",), ("update", 4), ("head", 10)], "now": ("enter", 10), "events": [("note", 3)], "entered": [4],
+            "stack": [("show",), ("update", 4), ("head", 10)], "now": ("enter", 10), "events": [("note", 3)],
+            "entered": [4],
             "collections": 1, "used": 12, "room": 1000})
         machine.collect()
         self.assertEqual((machine.collections, machine.heap.used), (2, 12))

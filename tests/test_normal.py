@@ -527,6 +527,16 @@ class IsNormalTest(unittest.TestCase):
             self.whole(False, main, function)
             self.whole(False, function, main)
 
+    def test_what_is_no_pair_of_functions_and_main(self):
+        main = ("main", (), atom(1))
+        for program in (((main,),), ((main,), "main", 1), ([main], "main"), ((list(main),), "main"), [(main,), "main"],
+                        None,
+                        ((main, ()), "main"), ((main, ("f", ())), "main"), ((main, ("f", (), atom(1), 1)), "main"),
+                        ((main, None), "main"), ((main, "abc"), "main"), ((main,), None), ((main,), ""),
+                        ((main,), ["main"]),
+                        ((main,), 0), (None, "main"), (main, "main")):
+            self.assertIs(is_normal(program), False, program)
+
     def test_main(self):
         self.whole(False)
         self.whole(False, ("f", (), atom(1)))

@@ -7,7 +7,8 @@ from needonce.apply_table import apply_table
 from needonce.check import check_code
 from needonce.checker import check
 from needonce.code import compile_program
-from needonce.errors import (Ambiguous, BadCharacter, BadNumber, DoubleName, IllTyped, MissingName, NoInstance, Unexpected,
+from needonce.errors import (Ambiguous, BadCharacter, BadNumber, DoubleName, IllTyped, MissingName, NoInstance,
+                             Unexpected,
                              UnknownName, WrongCount)
 from needonce.image import read_image, write_image
 from needonce.lift import lift
@@ -64,7 +65,8 @@ class RunCodeTest(unittest.TestCase):
 
     def test_schedules(self):
         code = (((0, NIL),), 0)
-        for schedule, steps, many in (([], 4, 0), ([0], 4, 1), ([0], 1, 1), ([1], 1, 0), ([3], 4, 1), ([3], 3, 0), ([4], 4, 0),
+        for schedule, steps, many in (([], 4, 0), ([0], 4, 1), ([0], 1, 1), ([1], 1, 0), ([3], 4, 1), ([3], 3, 0),
+                                      ([4], 4, 0),
                                       ([4], 10, 0), ([4, 5, 6, 7, 8], 10, 0), ([0, 0, 0], 4, 1), ([2, 0, 2, 0], 4, 2),
                                       ([3, 2, 1, 0], 4, 4), ([-1, -5], 4, 0), ([10 ** 30, -10 ** 30, 2], 4, 1),
                                       ([3, 3, -1, 99, 1, 4], 100, 2), (list(range(100)), 100, 4)):
@@ -76,7 +78,8 @@ class RunCodeTest(unittest.TestCase):
 
     def test_each_kind_of_state(self):
         for body, state, events, entered in (
-                (NIL, ("end",), (("end",),), 1), (("con", 2, ()), ("stuck",), (), 1), (("give", ("global", 0)), ("loop",), (), 1),
+                (NIL, ("end",), (("end",),), 1), (("con", 2, ()), ("stuck",), (), 1),
+                (("give", ("global", 0)), ("loop",), (), 1),
                 (("note", 4, ("pick", ("give", ("number", 1)), (), None)), ("fault", "no match"),
                  (("note", 4), ("fault", "no match")), 1),
                 (("con", 1, (("number", 5), ("number", 6))), ("stuck",), (("show", 5),), 1)):
@@ -130,14 +133,18 @@ class TextTest(unittest.TestCase):
 
     def test_run_text_is_run_code(self):
         for text, _ in (*SHORT[:12], *LOOPS):
-            for room, schedule, steps in ((ROOM, [], 300), (60, [3, 9, 27, 81], 200), (25, list(range(50)), 100), (0, [], 50)):
-                self.assertEqual(run_text(text, room, schedule, steps), run_code(compile_text(text), room, schedule, steps))
+            for room, schedule, steps in ((ROOM, [], 300), (60, [3, 9, 27, 81], 200), (25, list(range(50)), 100),
+                                          (0, [], 50)):
+                self.assertEqual(run_text(text, room, schedule, steps), run_code(compile_text(text), room, schedule,
+                                                                                 steps))
 
     def test_the_prelude(self):
-        self.assertEqual(pages(run_text("main = take 2 (upto 4 9)", ROOM, [], 5000)[0]), [(4, ()), (5, ()), ("end", ())])
+        self.assertEqual(pages(run_text("main = take 2 (upto 4 9)", ROOM, [], 5000)[0]),
+                         [(4, ()), (5, ()), ("end", ())])
         text = "take n = [n, n]\nmain = take 3"
         self.assertEqual(pages(run_text(text, ROOM, [], 500, prelude=False)[0]), [(3, ()), (3, ()), ("end", ())])
-        self.assertEqual(run_text(text, ROOM, [], 500, prelude=False), run_code(compile_text(text, prelude=False), ROOM, [], 500))
+        self.assertEqual(run_text(text, ROOM, [], 500, prelude=False), run_code(compile_text(text, prelude=False),
+                                                                                ROOM, [], 500))
         for run in (lambda **more: run_text(text, ROOM, [], 500, **more), lambda **more: compile_text(text, **more)):
             with self.assertRaises(DoubleName):
                 run()
@@ -148,12 +155,16 @@ class TextTest(unittest.TestCase):
                 run("main = take 2 (upto 4 9)", ROOM, [], 500, prelude=False)
 
     def test_errors(self):
-        for text, error in (("main = ?", BadCharacter), ("main = 01", BadNumber), ("main = (", Unexpected), ("main = x", UnknownName),
-                            ("f = 1", MissingName), ("main = []\nmain = []", DoubleName), ("main = case [] of { Cons x -> [x] }", WrongCount),
-                            ("main = 1", IllTyped), ("main = \\x -> x", IllTyped), ("main :: List Bool\nmain = []", IllTyped),
+        for text, error in (("main = ?", BadCharacter), ("main = 01", BadNumber), ("main = (", Unexpected),
+                            ("main = x", UnknownName),
+                            ("f = 1", MissingName), ("main = []\nmain = []", DoubleName),
+                            ("main = case [] of { Cons x -> [x] }", WrongCount),
+                            ("main = 1", IllTyped), ("main = \\x -> x", IllTyped),
+                            ("main :: List Bool\nmain = []", IllTyped),
                             ("class C a where { c :: a -> Int }\nmain = [c 1]", NoInstance),
                             ("class C a where { c :: Int -> a ; d :: a -> Int }\nmain = [d (c 1)]", Ambiguous)):
-            for run in (lambda: run_text(text, ROOM, [], 10), lambda: compile_text(text), lambda: run_text(text, 0, [], 0)):
+            for run in (lambda: run_text(text, ROOM, [], 10), lambda: compile_text(text),
+                        lambda: run_text(text, 0, [], 0)):
                 with self.subTest(text):
                     with self.assertRaises(error):
                         run()

@@ -11,7 +11,8 @@ SHORT = (
      [(7, ()), (3, ()), (-3, ()), (1, ()), (-1, ()), ("end", ())]),
     ("main = [if 1 < 2 then 10 else 20, if 2 <= 1 then 10 else 20, if 3 == 3 then 1 else 0]",
      [(10, ()), (20, ()), (1, ()), ("end", ())]),
-    ("main = [case 3 of { 1 -> 10 ; 3 -> 30 ; n -> n }, case 4 of { 1 -> 10 ; n -> n + 1 }]", [(30, ()), (5, ()), ("end", ())]),
+    ("main = [case 3 of { 1 -> 10 ; 3 -> 30 ; n -> n }, case 4 of { 1 -> 10 ; n -> n + 1 }]",
+     [(30, ()), (5, ()), ("end", ())]),
     ("main = case [1, 2] of\n  [] -> [0]\n  x : rest -> [x, x]", [(1, ()), (1, ()), ("end", ())]),
     # Numbers for ever.
     ("main = 1 : map (\\x -> x + x) main", [(1, ()), (2, ()), (4, ()), (8, ()), (16, ())]),
@@ -36,7 +37,8 @@ SHORT = (
     ("first x y = x\nloop = loop\nmain = [first 1 loop, first 2 (1 div 0), first (note 3 3) (note 4 4)]",
      [(1, ()), (2, ()), (3, (3,)), ("end", (3,))]),
     ("main = case [1 div 0, 2] of { x : rest -> rest }", [(2, ()), ("end", ())]),
-    ("data P a b = P a b\nsecond p = case p of { P a b -> b }\nmain = [second (P (note 1 0) (note 2 5))]", [(5, (2,)), ("end", (2,))]),
+    ("data P a b = P a b\nsecond p = case p of { P a b -> b }\nmain = [second (P (note 1 0) (note 2 5))]",
+     [(5, (2,)), ("end", (2,))]),
     # Things that are shared.
     ("main = let x = note 5 (1 + 1) in [x, x, x + x]", [(2, (5,)), (2, (5,)), (4, (5,)), ("end", (5,))]),
     ("twice f x = f (f x)\nmain = [twice (\\n -> note 6 (n * n)) 3]", [(81, (6,)), ("end", (6,))]),
